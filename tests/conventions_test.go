@@ -1,0 +1,123 @@
+package tests
+
+import (
+	"fmt"
+	"math"
+	"slices"
+	"strings"
+	"sync"
+	"testing"
+
+	"loop.example/g00748/impl"
+)
+
+// Arguments for P1: ordinary ones, limits, and invalid ones.
+var hostileInts = []int{math.MinInt, math.MinInt + 1, math.MinInt32, -65536, -1, 0, 1, 2, 12, 18, 19, 65, 127, 128, 2048, 4096, 55296, 57343,
+	65535, 65536, 65537, 1114111, 1114112, math.MaxInt32, 1 << 32, math.MaxInt - 1, math.MaxInt}
+
+func hostileTexts() []string {
+	list := []string{"", "a", "_a9", "9a", "ok", "header", "00ff", "0G", "000", "A\xe3\x81\x82\n", "\xc2", "\xc0\x80", "\xed\xa0\x80", "\xf4\x90\x80\x80",
+		"\xf8\x88\x80\x80\x80", "\xef\xbf\xbd", "\x1b$B", "\xff\xfe", "\xf0\x9f\x98\x80\xf0\x9f"}
+	for _, n := range []int{impl.MaxName, impl.MaxName + 1, impl.MaxList, impl.MaxList + 1, impl.MaxText / 2, impl.MaxText/2 + 1, impl.MaxText, impl.MaxText + 1, 3 * impl.MaxText} {
+		list = append(list, strings.Repeat("a", n), strings.Repeat("\xe3\x81\x82", n/3), strings.Repeat("\xff", n))
+	}
+	return list
+}
+
+func hostileLists() [][]int {
+	list := [][]int{nil, {}, {65}, {65, 12354, 128512}, hostileInts}
+	for _, n := range []int{impl.MaxList, impl.MaxList + 1, impl.MaxText + 1} {
+		list = append(list, make([]int, n), slices.Repeat([]int{1114112}, n))
+	}
+	return list
+}
+
+// A call yields all results of one call in one text.
+type call func() string
+
+func stageCalls() []call {
+	var calls []call
+	for _, n := range hostileInts {
+		calls = append(calls,
+			func() string { return fmt.Sprint("CodeWord", impl.CodeWord(n)) },
+			func() string { return fmt.Sprint("RuneOK", impl.RuneOK(n)) },
+			func() string { s, code := impl.PutRune(n); return fmt.Sprintf("PutRune %x %d", s, code) })
+	}
+	for _, s := range hostileTexts() {
+		calls = append(calls,
+			func() string { return fmt.Sprint("NameOK", impl.NameOK(s)) },
+			func() string { return fmt.Sprint("CodeOf", impl.CodeOf(s)) },
+			func() string { list, at, code := impl.RunesOf(s); return fmt.Sprint("RunesOf", list, at, code) },
+			func() string { return "HexOf " + impl.HexOf(s) },
+			func() string { b, code := impl.BytesOf(s); return fmt.Sprintf("BytesOf %x %d", b, code) })
+		for _, at := range hostileInts {
+			calls = append(calls, func() string { r, next, code := impl.TakeRune(s, at); return fmt.Sprint("TakeRune", r, next, code) })
+		}
+	}
+	for _, list := range hostileLists() {
+		calls = append(calls, func() string { s, code := impl.TextOf(list); return fmt.Sprintf("TextOf %x %d", s, code) })
+	}
+	return calls
+}
+
+// P1: equal arguments yield equal results, whatever was called before and
+// whatever is called at the same time. A panic ends the test.
+func TestResultsDoNotDependOnEarlierCalls(t *testing.T) {
+	calls := stageCalls()
+	first := make([]string, len(calls))
+	for i, c := range calls {
+		first[i] = c()
+	}
+	for i := len(calls) - 1; i >= 0; i-- {
+		if again := calls[i](); again != first[i] {
+			t.Errorf("call %d: first %.60s, then %.60s", i, first[i], again)
+		}
+	}
+	var all sync.WaitGroup
+	for range 4 {
+		all.Go(func() {
+			for i, c := range calls {
+				if again := c(); again != first[i] {
+					t.Errorf("call %d: first %.60s, at the same time %.60s", i, first[i], again)
+				}
+			}
+		})
+	}
+	all.Wait()
+}
+
+// P1: neither the elements of an argument nor its unused capacity change.
+func TestTextOfKeepsItsArgument(t *testing.T) {
+	for _, list := range [][]int{{65, 12354, 128512}, {65, 55296, 66}, {}, slices.Repeat([]int{65}, impl.MaxList), slices.Repeat([]int{-1}, impl.MaxList+1)} {
+		whole := append(slices.Clone(list), 7, 8, 9)
+		before := slices.Clone(whole)
+		impl.TextOf(whole[:len(list)])
+		if !slices.Equal(whole, before) {
+			t.Errorf("TextOf changed its argument of %d elements", len(list))
+		}
+	}
+}
+
+// Convention 3: a result is new memory.
+func TestRunesOfReturnsNewMemory(t *testing.T) {
+	const text = "A\xe3\x81\x82\n"
+	want := []int{65, 12354, 10}
+	one, _, _ := impl.RunesOf(text)
+	two, _, _ := impl.RunesOf(text)
+	for i := range one[:cap(one)] {
+		one[:cap(one)][i] = -1
+	}
+	three, _, _ := impl.RunesOf(text)
+	if !slices.Equal(two, want) || !slices.Equal(three, want) {
+		t.Error("the results of RunesOf share memory", two, three)
+	}
+}
+
+// Convention 2: an empty slice and nil are the same argument.
+func TestEmptyAndNilAreTheSameArgument(t *testing.T) {
+	a, ca := impl.TextOf(nil)
+	b, cb := impl.TextOf([]int{})
+	if a != b || ca != cb || ca != impl.OK {
+		t.Error("TextOf", a, ca, b, cb)
+	}
+}
