@@ -57,6 +57,27 @@ func stageCalls() []call {
 	for _, list := range hostileLists() {
 		calls = append(calls, func() string { s, code := impl.TextOf(list); return fmt.Sprintf("TextOf %x %d", s, code) })
 	}
+	return append(calls, setCalls()...)
+}
+
+func setCalls() []call {
+	var calls []call
+	for _, n := range append(slices.Clone(hostileInts), 3, 4, 5, 6, 7, 8, 9) {
+		calls = append(calls,
+			func() string { set, code := impl.SetOf(n); return fmt.Sprint("SetOf", set, code) },
+			func() string { size, code := impl.SizeOf(n); return fmt.Sprint("SizeOf", size, code) },
+			func() string { return fmt.Sprint("SetsFor", impl.SetsFor(n)) })
+		for _, m := range append(slices.Clone(hostileInts), 33, 66, 126, 8254, 9249, 9331, 9332, 12354) {
+			calls = append(calls,
+				func() string { set, code := impl.FindSet(n, m); return fmt.Sprint("FindSet", set, code) },
+				func() string { return fmt.Sprint("CodeOK", impl.CodeOK(n, m)) },
+				func() string { r, code := impl.RuneFor(n, m); return fmt.Sprint("RuneFor", r, code) },
+				func() string { c, code := impl.CodeFor(n, m); return fmt.Sprint("CodeFor", c, code) })
+		}
+	}
+	for _, s := range append(hostileTexts(), "ascii", "hanzi", "Hanzi") {
+		calls = append(calls, func() string { set, code := impl.SetNamed(s); return fmt.Sprint("SetNamed", set, code) })
+	}
 	return calls
 }
 
@@ -110,6 +131,37 @@ func TestRunesOfReturnsNewMemory(t *testing.T) {
 	three, _, _ := impl.RunesOf(text)
 	if !slices.Equal(two, want) || !slices.Equal(three, want) {
 		t.Error("the results of RunesOf share memory", two, three)
+	}
+}
+
+func TestSetOfReturnsNewMemory(t *testing.T) {
+	for n := 1; n <= impl.Sets; n++ {
+		one, _ := impl.SetOf(n)
+		two, _ := impl.SetOf(n)
+		want := slices.Clone(one.Spans)
+		for i := range one.Spans[:cap(one.Spans)] {
+			one.Spans[:cap(one.Spans)][i] = impl.Span{Code: 40, Rune: 1000, Count: 5000}
+		}
+		three, _ := impl.SetOf(n)
+		if !slices.Equal(two.Spans, want) || !slices.Equal(three.Spans, want) {
+			t.Errorf("the results of SetOf(%d) share memory: %v, %v", n, two.Spans, three.Spans)
+		}
+		if r, code := impl.RuneFor(n, want[0].Code); r != want[0].Rune || code != impl.OK {
+			t.Errorf("set %d changed with a result of SetOf: %d, %d", n, r, code)
+		}
+	}
+}
+
+func TestSetsForReturnsNewMemory(t *testing.T) {
+	want := []int{6, 7, 8}
+	one := impl.SetsFor(12354)
+	two := impl.SetsFor(12354)
+	for i := range one[:cap(one)] {
+		one[:cap(one)][i] = -1
+	}
+	three := impl.SetsFor(12354)
+	if !slices.Equal(two, want) || !slices.Equal(three, want) {
+		t.Error("the results of SetsFor share memory", two, three)
 	}
 }
 
