@@ -57,7 +57,7 @@ func stageCalls() []call {
 	for _, list := range hostileLists() {
 		calls = append(calls, func() string { s, code := impl.TextOf(list); return fmt.Sprintf("TextOf %x %d", s, code) })
 	}
-	return append(calls, setCalls()...)
+	return slices.Concat(calls, setCalls(), tokenCalls())
 }
 
 func setCalls() []call {
@@ -77,6 +77,26 @@ func setCalls() []call {
 	}
 	for _, s := range append(hostileTexts(), "ascii", "hanzi", "Hanzi") {
 		calls = append(calls, func() string { set, code := impl.SetNamed(s); return fmt.Sprint("SetNamed", set, code) })
+	}
+	return calls
+}
+
+func tokenCalls() []call {
+	var calls []call
+	texts := append(hostileTexts(), "\x1b", "\x1b$", "\x1b$(", "\x1b$(B", "\x1b((((", "\x1b\x1b\x0e\x8f \x9f", "\x1b$\n\x1bn\x1bO", strings.Repeat("\x1b$)C", impl.MaxList))
+	for _, s := range texts {
+		calls = append(calls, func() string { list, code := impl.TokensOf(s); return fmt.Sprint("TokensOf", list, code) })
+		for _, at := range hostileInts {
+			calls = append(calls, func() string { x, code := impl.NextToken(s, at); return fmt.Sprint("NextToken", x, code) })
+		}
+	}
+	for _, n := range append(slices.Clone(hostileInts), 3, 4, 5, 6, 7, 8, 9) {
+		for _, m := range hostileInts {
+			calls = append(calls, func() string { s, code := impl.EscapeOf(m, n); return fmt.Sprintf("EscapeOf %x %d", s, code) })
+			for _, x := range []impl.Token{newToken(n, m, 0, 0, 0, 1), newToken(7, 1, n, m, 0, 3), newToken(9, 0, 0, 0, n, m), newToken(n, m, n, m, n, m)} {
+				calls = append(calls, func() string { s, code := impl.TokenText(x); return fmt.Sprint("TokenText", s, code) })
+			}
+		}
 	}
 	return calls
 }
@@ -162,6 +182,20 @@ func TestSetsForReturnsNewMemory(t *testing.T) {
 	three := impl.SetsFor(12354)
 	if !slices.Equal(two, want) || !slices.Equal(three, want) {
 		t.Error("the results of SetsFor share memory", two, three)
+	}
+}
+
+func TestTokensOfReturnsNewMemory(t *testing.T) {
+	const text = "A\x1b$B\n"
+	want := []impl.Token{newToken(impl.TkLeft, 65, 0, 0, 0, 1), newToken(impl.TkName, 0, 3, 66, 1, 3), newToken(impl.TkControl, 10, 0, 0, 4, 1)}
+	one, _ := impl.TokensOf(text)
+	two, _ := impl.TokensOf(text)
+	for i := range one[:cap(one)] {
+		one[:cap(one)][i] = newToken(-1, -1, -1, -1, -1, -1)
+	}
+	three, _ := impl.TokensOf(text)
+	if !slices.Equal(two, want) || !slices.Equal(three, want) {
+		t.Error("the results of TokensOf share memory", two, three)
 	}
 }
 
