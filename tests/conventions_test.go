@@ -154,21 +154,29 @@ func TestRunesOfReturnsNewMemory(t *testing.T) {
 	}
 }
 
+// A caller who changes the spans of a set changes no other result.
 func TestSetOfReturnsNewMemory(t *testing.T) {
-	for n := 1; n <= impl.Sets; n++ {
-		one, _ := impl.SetOf(n)
-		two, _ := impl.SetOf(n)
-		want := slices.Clone(one.Spans)
+	for _, row := range setTable {
+		one, _ := impl.SetOf(row.number)
+		two, _ := impl.SetOf(row.number)
 		for i := range one.Spans[:cap(one.Spans)] {
 			one.Spans[:cap(one.Spans)][i] = impl.Span{Code: 40, Rune: 1000, Count: 5000}
 		}
-		three, _ := impl.SetOf(n)
-		if !slices.Equal(two.Spans, want) || !slices.Equal(three.Spans, want) {
-			t.Errorf("the results of SetOf(%d) share memory: %v, %v", n, two.Spans, three.Spans)
+		three, _ := impl.SetOf(row.number)
+		if !row.sameSpans(two.Spans) || !row.sameSpans(three.Spans) {
+			t.Errorf("the results of SetOf(%d) share memory: %v, %v", row.number, two.Spans, three.Spans)
 		}
-		if r, code := impl.RuneFor(n, want[0].Code); r != want[0].Rune || code != impl.OK {
-			t.Errorf("set %d changed with a result of SetOf: %d, %d", n, r, code)
+		if size, code := impl.SizeOf(row.number); size != row.size || code != impl.OK {
+			t.Errorf("SizeOf(%d) changed with a result of SetOf: %d, %d", row.number, size, code)
 		}
+		for code, r := range row.characters() {
+			checkCode(t, row.number, code, r, impl.OK)
+			checkRune(t, row.number, r, code, impl.OK)
+		}
+		checkRune(t, row.number, 1000, 0, impl.ErrUnmapped)
+	}
+	if list := impl.SetsFor(1000); len(list) != 0 {
+		t.Error("SetsFor(1000) changed with a result of SetOf:", list)
 	}
 }
 
