@@ -57,7 +57,7 @@ func stageCalls() []call {
 	for _, list := range hostileLists() {
 		calls = append(calls, func() string { s, code := impl.TextOf(list); return fmt.Sprintf("TextOf %x %d", s, code) })
 	}
-	return slices.Concat(calls, setCalls(), tokenCalls())
+	return slices.Concat(calls, setCalls(), tokenCalls(), machineCalls())
 }
 
 func setCalls() []call {
@@ -96,6 +96,39 @@ func tokenCalls() []call {
 			for _, x := range []impl.Token{newToken(n, m, 0, 0, 0, 1), newToken(7, 1, n, m, 0, 3), newToken(9, 0, 0, 0, n, m), newToken(n, m, n, m, n, m)} {
 				calls = append(calls, func() string { s, code := impl.TokenText(x); return fmt.Sprint("TokenText", s, code) })
 			}
+		}
+	}
+	return calls
+}
+
+func machineCalls() []call {
+	calls := []call{func() string { return fmt.Sprint("StartState", impl.StartState()) }}
+	states := append(smallStates(), impl.State{}, impl.State{G0: 4}, impl.State{G0: 1, Left: 4}, impl.State{G0: 1, Single: -1}, impl.State{G0: 1, Lead: 36},
+		impl.State{G0: math.MaxInt, G1: math.MinInt, G2: math.MaxInt, G3: math.MinInt, Left: math.MaxInt, Single: math.MinInt, Lead: math.MaxInt},
+		impl.State{G0: 6, G1: 6, Lead: math.MinInt}, impl.State{G0: 6, G1: 6, Lead: math.MaxInt})
+	texts := append(hostileTexts(), "\x1b", "\x1b$B$\"", "\x1b$B$\n", "\x1b.A\x1bN \x8e\xe9", "\x1b$)C\x0e0!\x0f", "\"$\"", "\xa2\xa4", strings.Repeat("\x1b$)C", impl.MaxList))
+	for _, s := range states {
+		calls = append(calls,
+			func() string { return fmt.Sprint("StateOK", impl.StateOK(s)) },
+			func() string { return fmt.Sprint("Pending", impl.Pending(s)) })
+		for _, n := range append(slices.Clone(hostileInts), 3, 4, 5, 6, 7, 8, 9) {
+			calls = append(calls,
+				func() string { set, code := impl.RegisterOf(s, n); return fmt.Sprint("RegisterOf", set, code) },
+				func() string { x, code := impl.NameSet(s, n, 6); return fmt.Sprint("NameSet", x, code) },
+				func() string { x, code := impl.NameSet(s, 2, n); return fmt.Sprint("NameSet", x, code) },
+				func() string { x, code := impl.NameSet(s, n, n); return fmt.Sprint("NameSet", x, code) })
+			for _, x := range []impl.Token{newToken(n, 65, 0, 0, 0, 1), newToken(3, n, 0, 0, 0, 1), newToken(4, n, 0, 0, 0, 1), newToken(7, n, 3, 66, 0, 4), newToken(7, 1, n, 66, 0, 3), newToken(n, n, n, n, n, n)} {
+				calls = append(calls, func() string {
+					y, r, made, code := impl.StepState(s, x)
+					return fmt.Sprint("StepState", y, r, made, code)
+				})
+			}
+		}
+		for _, text := range texts {
+			calls = append(calls, func() string {
+				x, list, at, code := impl.RunState(s, text)
+				return fmt.Sprint("RunState", x, list, at, code)
+			})
 		}
 	}
 	return calls
@@ -204,6 +237,22 @@ func TestTokensOfReturnsNewMemory(t *testing.T) {
 	three, _ := impl.TokensOf(text)
 	if !slices.Equal(two, want) || !slices.Equal(three, want) {
 		t.Error("the results of TokensOf share memory", two, three)
+	}
+}
+
+// Also beside a code of a step.
+func TestRunStateReturnsNewMemory(t *testing.T) {
+	for _, text := range []string{"A\x1b$B$\"\n", "A\x1b$B$\"\n\x80"} {
+		want := []int{65, 12354, 10}
+		_, one, _, _ := impl.RunState(impl.StartState(), text)
+		_, two, _, _ := impl.RunState(impl.StartState(), text)
+		for i := range one[:cap(one)] {
+			one[:cap(one)][i] = -1
+		}
+		_, three, _, _ := impl.RunState(impl.StartState(), text)
+		if !slices.Equal(two, want) || !slices.Equal(three, want) {
+			t.Error("the results of RunState share memory", two, three)
+		}
 	}
 }
 
