@@ -57,7 +57,7 @@ func stageCalls() []call {
 	for _, list := range hostileLists() {
 		calls = append(calls, func() string { s, code := impl.TextOf(list); return fmt.Sprintf("TextOf %x %d", s, code) })
 	}
-	return slices.Concat(calls, setCalls(), tokenCalls(), machineCalls())
+	return slices.Concat(calls, setCalls(), tokenCalls(), machineCalls(), profileCalls())
 }
 
 func setCalls() []call {
@@ -129,6 +129,39 @@ func machineCalls() []call {
 				x, list, at, code := impl.RunState(s, text)
 				return fmt.Sprint("RunState", x, list, at, code)
 			})
+		}
+	}
+	return calls
+}
+
+func profileCalls() []call {
+	var calls []call
+	for _, s := range append(hostileTexts(), "jp", "ct", "Jp") {
+		calls = append(calls, func() string { n, code := impl.ProfileNamed(s); return fmt.Sprint("ProfileNamed", n, code) })
+	}
+	states := append(smallStates(), impl.State{}, impl.State{G0: 4}, impl.State{G0: 1, Left: math.MinInt}, impl.State{G0: 6, G1: 6, Lead: math.MaxInt})
+	tokens := append(tokensOfEveryKind(), noToken, newToken(math.MaxInt, 0, 0, 0, 0, 1), newToken(math.MinInt, 0, 0, 0, 0, 1), newToken(7, math.MaxInt, 1, 66, 0, 3), newToken(7, math.MinInt, 1, 66, 0, 3),
+		newToken(7, 1, math.MaxInt, 66, 0, 3), newToken(7, 1, 1, math.MinInt, 0, 3), newToken(6, 2, 0, 0, math.MaxInt, 2), newToken(6, 2, 0, 0, 0, math.MaxInt))
+	for _, n := range append(slices.Clone(hostileInts), 3, 4, 5, 6) {
+		calls = append(calls,
+			func() string {
+				p, code := impl.ProfileOf(n)
+				return fmt.Sprintf("ProfileOf %q %d", fmt.Sprint(p), code)
+			},
+			func() string { s, code := impl.StartOf(n); return fmt.Sprint("StartOf", s, code) })
+		for _, x := range tokens {
+			calls = append(calls, func() string { yes, code := impl.AllowsToken(n, x); return fmt.Sprint("AllowsToken", yes, code) })
+		}
+		for _, s := range states {
+			calls = append(calls,
+				func() string { yes, code := impl.AtRest(n, s); return fmt.Sprint("AtRest", yes, code) },
+				func() string { x, code := impl.LineEnd(n, s); return fmt.Sprint("LineEnd", x, code) })
+			for _, x := range tokens {
+				calls = append(calls, func() string {
+					y, r, made, code := impl.StepProfile(n, s, x)
+					return fmt.Sprint("StepProfile", y, r, made, code)
+				})
+			}
 		}
 	}
 	return calls
