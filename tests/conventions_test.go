@@ -57,7 +57,7 @@ func stageCalls() []call {
 	for _, list := range hostileLists() {
 		calls = append(calls, func() string { s, code := impl.TextOf(list); return fmt.Sprintf("TextOf %x %d", s, code) })
 	}
-	return slices.Concat(calls, setCalls(), tokenCalls(), machineCalls(), profileCalls())
+	return slices.Concat(calls, setCalls(), tokenCalls(), machineCalls(), profileCalls(), decodeCalls())
 }
 
 func setCalls() []call {
@@ -162,6 +162,24 @@ func profileCalls() []call {
 					return fmt.Sprint("StepProfile", y, r, made, code)
 				})
 			}
+		}
+	}
+	return calls
+}
+
+func decodeCalls() []call {
+	var calls []call
+	texts := append(hostileTexts(), "\x1b", "\x1b$B$\"\n", "\x1b$B$\nA\x1b(B", "\x1b.F\x1bN\n\x1bNA", "\x1b$)C", "\x1b$)C\x0e0!\x0f\n\x0e", "\xe9\x1b$)B\xa4\n\xa4\xa2", strings.Repeat("\x0e\n", impl.MaxList/2))
+	for _, v := range validTexts {
+		texts = append(texts, v.text)
+	}
+	for _, n := range append(slices.Clone(hostileInts), 3, 4, 5, 6) {
+		for _, s := range texts {
+			calls = append(calls,
+				func() string { list, at, code := impl.Decode(n, s); return fmt.Sprint("Decode", list, at, code) },
+				func() string { valid, code := impl.ValidText(n, s); return fmt.Sprint("ValidText", valid, code) },
+				func() string { at, code := impl.GoodUpTo(n, s); return fmt.Sprint("GoodUpTo", at, code) },
+				func() string { list, code := impl.DecodeLoose(n, s); return fmt.Sprint("DecodeLoose", list, code) })
 		}
 	}
 	return calls
