@@ -57,7 +57,7 @@ func stageCalls() []call {
 	for _, list := range hostileLists() {
 		calls = append(calls, func() string { s, code := impl.TextOf(list); return fmt.Sprintf("TextOf %x %d", s, code) })
 	}
-	return slices.Concat(calls, setCalls(), tokenCalls(), machineCalls(), profileCalls(), decodeCalls())
+	return slices.Concat(calls, setCalls(), tokenCalls(), machineCalls(), profileCalls(), decodeCalls(), encodeCalls())
 }
 
 func setCalls() []call {
@@ -180,6 +180,41 @@ func decodeCalls() []call {
 				func() string { valid, code := impl.ValidText(n, s); return fmt.Sprint("ValidText", valid, code) },
 				func() string { at, code := impl.GoodUpTo(n, s); return fmt.Sprint("GoodUpTo", at, code) },
 				func() string { list, code := impl.DecodeLoose(n, s); return fmt.Sprint("DecodeLoose", list, code) })
+		}
+	}
+	return calls
+}
+
+func encodeCalls() []call {
+	var calls []call
+	states := append(smallStates(), impl.State{}, impl.State{G0: 4}, impl.State{G0: 1, G1: 4}, impl.State{G0: 1, Left: math.MinInt}, impl.State{G0: 6, G1: 6, Lead: math.MaxInt})
+	lists := append(hostileLists(), []int{27}, []int{65, 233, 10, 12354}, []int{44032, 10, 19968, 65377}, slices.Repeat([]int{12354, 65}, 30), slices.Repeat([]int{97}, 61), []int{165, -1})
+	for _, v := range validTexts {
+		lists = append(lists, v.chars)
+	}
+	for _, n := range append(slices.Clone(hostileInts), 3, 4, 5, 6) {
+		for _, s := range states {
+			calls = append(calls, func() string {
+				texts, next, code := impl.MovesOf(n, s)
+				return fmt.Sprintf("MovesOf %q %v %d", texts, next, code)
+			})
+			for _, r := range append(slices.Clone(hostileInts), 10, 14, 32, 233, 12354, 19998) {
+				calls = append(calls, func() string { forms, code := impl.FormsOf(n, s, r); return fmt.Sprintf("FormsOf %q %d", forms, code) })
+			}
+		}
+		for _, r := range append(slices.Clone(hostileInts), 10, 14, 32, 255, 12354, 65377) {
+			calls = append(calls, func() string { can, code := impl.CanEncode(n, r); return fmt.Sprint("CanEncode", can, code) })
+		}
+		for _, list := range lists {
+			calls = append(calls,
+				func() string { s, at, code := impl.Encode(n, list); return fmt.Sprintf("Encode %q %d %d", s, at, code) },
+				func() string { cost, at, code := impl.CostOf(n, list); return fmt.Sprint("CostOf", cost, at, code) })
+			for _, mark := range []int{63, 233, 27, -1, math.MaxInt} {
+				calls = append(calls, func() string {
+					s, code := impl.EncodeLoose(n, list, mark)
+					return fmt.Sprintf("EncodeLoose %q %d", s, code)
+				})
+			}
 		}
 	}
 	return calls
