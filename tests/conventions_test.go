@@ -57,7 +57,7 @@ func stageCalls() []call {
 	for _, list := range hostileLists() {
 		calls = append(calls, func() string { s, code := impl.TextOf(list); return fmt.Sprintf("TextOf %x %d", s, code) })
 	}
-	return slices.Concat(calls, setCalls(), tokenCalls(), machineCalls(), profileCalls(), decodeCalls(), encodeCalls())
+	return slices.Concat(calls, setCalls(), tokenCalls(), machineCalls(), profileCalls(), decodeCalls(), encodeCalls(), pieceCalls())
 }
 
 func setCalls() []call {
@@ -215,6 +215,54 @@ func encodeCalls() []call {
 					return fmt.Sprintf("EncodeLoose %q %d", s, code)
 				})
 			}
+		}
+	}
+	return calls
+}
+
+func pieceCalls() []call {
+	var calls []call
+	decoders := []impl.Decoder{{}, {Profile: 1, State: impl.State{G0: 4}}, {Profile: 3, State: impl.State{G0: 1}, Rest: "\x1b$"}, {Profile: 3, State: impl.State{G0: 1}, Rest: "\x1b("},
+		{Profile: 1, At: maxBytes, State: impl.State{G0: 6, Lead: 36}, Rest: "\x1b(", Begun: true}, {Profile: 2, At: 9, State: impl.State{G0: 6, G2: 5, Single: 2}, Begun: true},
+		{Profile: 4, State: impl.State{G0: 1}, Over: true}, {Profile: 5, Code: 11, State: impl.State{G0: 1}, Over: true}, {Profile: 5, Code: 11, State: impl.State{G0: 1}}, {Profile: 1, State: impl.State{G0: 1}, Rest: "\x1b", Over: true}}
+	for i, n := range append(slices.Clone(hostileInts), 3, 4, 5, 6) {
+		s := impl.State{G0: 1, G1: 7}
+		*field(&s, i%7) = n
+		decoders = append(decoders,
+			impl.Decoder{Profile: n, State: impl.State{G0: 1}},
+			impl.Decoder{Profile: 3, At: n, State: impl.State{G0: 1}, Begun: true},
+			impl.Decoder{Profile: 3, Code: n, State: impl.State{G0: 1}, Over: true},
+			impl.Decoder{Profile: 3, State: s, Begun: true},
+			impl.Decoder{Profile: n, At: n, Code: n, State: s, Begun: true, Over: true})
+		calls = append(calls, func() string { d, code := impl.NewDecoder(n); return fmt.Sprintf("NewDecoder %+v %d", d, code) })
+	}
+	texts := append(hostileTexts(), "\x1b", "\x1b$", "$)C\x0e0!\x0f\x1b(", "B$\"\n", "\"A\n\x1b((((", "\x1b$)C", "\xe9\x80\x1b$")
+	for _, text := range texts {
+		d := impl.Decoder{Profile: 3, State: impl.State{G0: 1}, Rest: text}
+		begun, over := d, d
+		begun.Begun, over.Over = true, true
+		decoders = append(decoders, d, begun, over)
+	}
+	for _, d := range decoders {
+		calls = append(calls,
+			func() string { return fmt.Sprint("DecoderOK", impl.DecoderOK(d)) },
+			func() string { x, code := impl.CloseDecoder(d); return fmt.Sprintf("CloseDecoder %+v %d", x, code) })
+		for _, text := range texts {
+			calls = append(calls, func() string {
+				x, list, code := impl.WritePiece(d, text)
+				return fmt.Sprintf("WritePiece %+v %v %d", x, list, code)
+			})
+		}
+	}
+	lists := [][]string{nil, {}, {""}, texts,
+		{"\x1b", "$)C\x0e", "0", "!\x0f\n"}, {"A", "\x1b$B$", "\"", "\x1b(B"}, {"A", "\x80", "B", "C"}, {"\xe9", "\x1b", "$B$", "\x1b("},
+		make([]string, impl.MaxList), make([]string, impl.MaxList+1), slices.Repeat([]string{"\n"}, impl.MaxList), slices.Repeat([]string{"\x1b", "(B"}, 1000), slices.Repeat([]string{longestPiece}, impl.MaxList)}
+	for _, n := range append(slices.Clone(hostileInts), 3, 4, 5, 6) {
+		for _, pieces := range lists {
+			calls = append(calls, func() string {
+				list, at, code := impl.DecodePieces(n, pieces)
+				return fmt.Sprint("DecodePieces", list, at, code)
+			})
 		}
 	}
 	return calls
