@@ -60,6 +60,11 @@ func TakeRune(t string, at int) (int, int, int) {
 	if at < 0 || at >= len(t) {
 		return 0, 0, ErrSize
 	}
+	return runeOf(t, at)
+}
+
+// runeOf is TakeRune for an offset inside t, whose length is not limited here.
+func runeOf(t string, at int) (int, int, int) {
 	r, next, err := runeAt(t, at)
 	if err != nil {
 		return 0, 0, faultCode(err)

@@ -57,7 +57,7 @@ func stageCalls() []call {
 	for _, list := range hostileLists() {
 		calls = append(calls, func() string { s, code := impl.TextOf(list); return fmt.Sprintf("TextOf %x %d", s, code) })
 	}
-	return slices.Concat(calls, setCalls(), tokenCalls(), machineCalls(), profileCalls(), decodeCalls(), encodeCalls(), pieceCalls())
+	return slices.Concat(calls, setCalls(), tokenCalls(), machineCalls(), profileCalls(), decodeCalls(), encodeCalls(), pieceCalls(), lineCalls())
 }
 
 func setCalls() []call {
@@ -264,6 +264,49 @@ func pieceCalls() []call {
 				return fmt.Sprint("DecodePieces", list, at, code)
 			})
 		}
+	}
+	return calls
+}
+
+func lineCalls() []call {
+	var calls []call
+	encoders := []impl.Encoder{{}, {Profile: 1, Rest: "a"}, {Profile: 2, Count: 9, Rest: "\xe3\x81", Line: []int{65, 233}}, {Profile: 3, Count: maxCount, Line: []int{44032}, Begun: true},
+		{Profile: 5, Count: 60, Line: slices.Repeat([]int{233, 12354}, 30)}, {Profile: 4, Count: impl.MaxText + 1, Line: make([]int, impl.MaxText+1)}, {Profile: 4, Over: true}, {Profile: 4, Code: 16, Over: true}, {Profile: 4, Code: 16}}
+	for _, n := range append(slices.Clone(hostileInts), 3, 4, 5, 6) {
+		encoders = append(encoders, impl.Encoder{Profile: n}, impl.Encoder{Profile: 3, Count: n}, impl.Encoder{Profile: 3, Code: n, Over: true}, impl.Encoder{Profile: 5, Count: 1, Line: []int{n}},
+			impl.Encoder{Profile: n, Count: n, Code: n, Line: []int{n, n}, Begun: true, Over: true})
+		calls = append(calls, func() string { e, code := impl.NewEncoder(n); return fmt.Sprintf("NewEncoder %+v %d", e, code) })
+	}
+	texts := append(hostileTexts(), "\x81\x82", "\xa9A\n", "\xea\xb0\x80\n\xe3", "\xc3\xa9\xe3\x81\x82\n\n", "A\x1bB", "A\n\xe3\x81A", strings.Repeat("a\n", 1000))
+	for _, text := range texts {
+		encoders = append(encoders, impl.Encoder{Profile: 2, Rest: text}, impl.Encoder{Profile: 2, Rest: text, Over: true})
+	}
+	for i, e := range encoders {
+		calls = append(calls,
+			func() string { return fmt.Sprint("EncoderOK", impl.EncoderOK(e), impl.SameEncoder(e, encoders[i/2])) },
+			func() string {
+				x, out, code := impl.CloseEncoder(e)
+				return fmt.Sprintf("CloseEncoder %+v %q %d", x, out, code)
+			})
+		for _, text := range texts {
+			calls = append(calls, func() string {
+				x, out, code := impl.WriteText(e, text)
+				return fmt.Sprintf("WriteText %+v %q %d", x, out, code)
+			})
+		}
+	}
+	lists := [][]string{nil, {}, {""}, texts, {"A\n\xe3", "\x81", "", "\x82\n"}, {"\xc3", "\xa9\xe3"}, {"\xea\xb0\x80\n", "\xff", "B"}, slices.Repeat([]string{"\xe3", "\x81\x82\n"}, 500),
+		make([]string, impl.MaxList), make([]string, impl.MaxList+1), slices.Repeat([]string{"\n"}, impl.MaxList), slices.Repeat([]string{longestPiece}, impl.MaxList)}
+	for _, n := range append(slices.Clone(hostileInts), 3, 4, 5, 6) {
+		for _, pieces := range lists {
+			calls = append(calls, func() string {
+				out, count, code := impl.EncodePieces(n, pieces)
+				return fmt.Sprintf("EncodePieces %q %d %d", out, count, code)
+			})
+		}
+	}
+	for _, list := range append(hostileLists(), []int{10}, []int{65, 10, 10, 66}, []int{10, -1}, slices.Repeat([]int{10}, impl.MaxList)) {
+		calls = append(calls, func() string { lines, code := impl.LinesOf(list); return fmt.Sprint("LinesOf", lines, code) })
 	}
 	return calls
 }

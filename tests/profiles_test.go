@@ -36,8 +36,9 @@ func (row profileRow) same(p impl.Profile) bool {
 		flags == [5]bool{row.right, row.shifts, row.single, row.reset, row.clear}
 }
 
-// eachProfile runs a test for every profile, all at the same time.
+// eachProfile runs a test for every profile, at the same time as other tests.
 func eachProfile(t *testing.T, test func(t *testing.T, row profileRow)) {
+	t.Parallel()
 	for _, row := range profileTable {
 		t.Run(row.name, func(t *testing.T) {
 			t.Parallel()
