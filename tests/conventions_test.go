@@ -57,7 +57,7 @@ func stageCalls() []call {
 	for _, list := range hostileLists() {
 		calls = append(calls, func() string { s, code := impl.TextOf(list); return fmt.Sprintf("TextOf %x %d", s, code) })
 	}
-	return slices.Concat(calls, setCalls(), tokenCalls(), machineCalls(), profileCalls(), decodeCalls(), encodeCalls(), pieceCalls(), lineCalls())
+	return slices.Concat(calls, setCalls(), tokenCalls(), machineCalls(), profileCalls(), decodeCalls(), encodeCalls(), pieceCalls(), lineCalls(), detectCalls())
 }
 
 func setCalls() []call {
@@ -307,6 +307,40 @@ func lineCalls() []call {
 	}
 	for _, list := range append(hostileLists(), []int{10}, []int{65, 10, 10, 66}, []int{10, -1}, slices.Repeat([]int{10}, impl.MaxList)) {
 		calls = append(calls, func() string { lines, code := impl.LinesOf(list); return fmt.Sprint("LinesOf", lines, code) })
+	}
+	return calls
+}
+
+func detectCalls() []call {
+	var calls []call
+	texts := append(hostileTexts(), "\x1b", "\x1b$", "\x1b$)C", "\x1b$)C\n\x0e0!\x0f", "\x1b$B$\"", "\x1b.A\x1bNi", "\x0e\x0f", "A\x80", strings.Repeat("\x1b$)C", impl.MaxList/4))
+	lists := append(hostileLists(), []int{27}, []int{65, 27, -1}, []int{255}, slices.Repeat([]int{44032, 19968, 65}, 3), slices.Repeat([]int{97}, 61))
+	for _, v := range validTexts {
+		texts, lists = append(texts, v.text), append(lists, v.chars)
+	}
+	for _, n := range hostileInts {
+		lists = append(lists, []int{n}, []int{65, n, 65})
+	}
+	for _, s := range texts {
+		calls = append(calls,
+			func() string { list, code := impl.Detect(s); return fmt.Sprint("Detect", list, code) },
+			func() string { list, code := impl.FirstFault(s); return fmt.Sprint("FirstFault", list, code) },
+			func() string { list, code := impl.DetectAll([]string{s}); return fmt.Sprint("DetectAll", list, code) },
+			func() string {
+				list, code := impl.DetectAll(singleBytes(s, true))
+				return fmt.Sprint("DetectAll", list, code)
+			})
+	}
+	for _, pieces := range [][]string{nil, {}, {"", ""}, texts, make([]string, impl.MaxList), make([]string, impl.MaxList+1), slices.Repeat([]string{longestPiece}, impl.MaxList)} {
+		calls = append(calls, func() string { list, code := impl.DetectAll(pieces); return fmt.Sprint("DetectAll", list, code) })
+	}
+	for _, list := range lists {
+		calls = append(calls,
+			func() string {
+				profiles, code := impl.SpeakersOf(list)
+				return fmt.Sprint("SpeakersOf", profiles, code)
+			},
+			func() string { n, cost, code := impl.BestFor(list); return fmt.Sprint("BestFor", n, cost, code) })
 	}
 	return calls
 }
