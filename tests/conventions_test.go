@@ -57,7 +57,7 @@ func stageCalls() []call {
 	for _, list := range hostileLists() {
 		calls = append(calls, func() string { s, code := impl.TextOf(list); return fmt.Sprintf("TextOf %x %d", s, code) })
 	}
-	return slices.Concat(calls, setCalls(), tokenCalls(), machineCalls(), profileCalls(), decodeCalls(), encodeCalls(), pieceCalls(), lineCalls(), detectCalls())
+	return slices.Concat(calls, setCalls(), tokenCalls(), machineCalls(), profileCalls(), decodeCalls(), encodeCalls(), pieceCalls(), lineCalls(), detectCalls(), changeCalls())
 }
 
 func setCalls() []call {
@@ -343,6 +343,38 @@ func detectCalls() []call {
 			func() string { n, cost, code := impl.BestFor(list); return fmt.Sprint("BestFor", n, cost, code) })
 	}
 	return calls
+}
+
+func changeCalls() []call {
+	var calls []call
+	texts := append(hostileTexts(), "\x1b", "\x1b$)C", "\x1b$)C\x0e0!\x0f", "\x1b(B\x1b$B$\"\x1b(B", "A\xe9", "A\x80\x1bNB", strings.Repeat("\x1b(B", impl.MaxList/3))
+	for _, v := range validTexts {
+		texts = append(texts, v.text)
+	}
+	for _, n := range append(slices.Clone(hostileInts), 3, 4, 5, 6) {
+		for _, s := range texts {
+			calls = append(calls,
+				func() string { return changed(impl.Transcode(n, impl.PrJp2, s)) },
+				func() string { return changed(impl.Transcode(impl.PrCt, n, s)) },
+				func() string { return changed(impl.ToUtf(n, s)) },
+				func() string { return changed(impl.FromUtf(n, s)) },
+				func() string { return changed(impl.Shorten(n, s)) },
+				func() string { waste, code := impl.Wasted(n, s); return fmt.Sprint("Wasted", waste, code) },
+				func() string {
+					text, code := impl.TranscodeLoose(n, impl.PrJp, s, 63)
+					return fmt.Sprintf("%q %d", text, code)
+				},
+				func() string {
+					text, code := impl.TranscodeLoose(impl.PrKr, impl.PrCt, s, n)
+					return fmt.Sprintf("%q %d", text, code)
+				})
+		}
+	}
+	return calls
+}
+
+func changed(text string, at, code int) string {
+	return fmt.Sprintf("%q %d %d", text, at, code)
 }
 
 // P1: equal arguments yield equal results, whatever was called before and
